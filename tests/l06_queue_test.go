@@ -409,6 +409,8 @@ func TestWhatWasQueuedCanBeUnqueued(t *testing.T) {
 		for place := range q {
 			shorter := slices.Concat(q[:place], q[place+1:])
 			checkThereAndBack(t, shorter, q[place])
+			checkQueued(t, shorter, q[place])
+			checkUnqueued(t, q, q[place].Who)
 		}
 		for who := int64(0); who <= 99; who++ {
 			if wantIsThere(q, who) {

@@ -237,7 +237,10 @@ func wantTurns(m impl.Smithy) bool {
 	return true
 }
 
-func wantSmithyOk(m impl.Smithy) bool {
+func wantSmithyOk(m impl.Smithy) bool { return wantAllInPlace(m) && wantTurns(m) }
+
+// wantAllInPlace asks all of a smithy but whose turn it is.
+func wantAllInPlace(m impl.Smithy) bool {
 	rooms := wantRooms(m.Hall)
 	if len(rooms) == 0 || !wantGuildsOk(m.Guilds) || len(m.Smiths) > mostSmiths || len(m.Desks) != len(rooms) || len(m.Paces) != len(m.Hall.Rooms) || !isFrom(m.Now, 0, mostNow) {
 		return false
@@ -261,7 +264,7 @@ func wantSmithyOk(m impl.Smithy) bool {
 			return false
 		}
 	}
-	return open > 0 && wantTurns(m)
+	return open > 0
 }
 
 // wantAt sorts, where the program queues one after the other.

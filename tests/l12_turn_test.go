@@ -358,8 +358,8 @@ func TestManySmithiesAreTurned(t *testing.T) {
 }
 
 // All that may be wrong in whose turn it is, and nothing else.
-func TestWrongTurnsAreMended(t *testing.T) {
-	cases := []spoiled{
+func spoiledTurns() []spoiled {
+	return []spoiled{
 		{"nobody that works and all that wait", func(m *impl.Smithy) {
 			m.Smiths[0].State, m.Smiths[4].State, m.Desks[0].Who, m.Desks[2].Who = impl.SmWaits, impl.SmWaits, -1, -1
 		}},
@@ -389,7 +389,10 @@ func TestWrongTurnsAreMended(t *testing.T) {
 		{"empty smiths, and Whos", func(m *impl.Smithy) { m.Smiths = m.Smiths[:0] }},
 		{"two that worked at two benches being at one", func(m *impl.Smithy) { m.Smiths[4].Bench, m.Smiths[4].May, m.Smiths[4].Had = 0, 255, 201 }},
 	}
-	for _, k := range cases {
+}
+
+func TestWrongTurnsAreMended(t *testing.T) {
+	for _, k := range spoiledTurns() {
 		m := lendSmithy(middleSmithy())
 		k.change(&m)
 		checkTurnMended(t, k.what, m)

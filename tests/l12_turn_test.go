@@ -680,6 +680,53 @@ func spoiledPlaces() []spoiled {
 	}
 }
 
+// withListsDropped goes through what has nothing at all, and smithies of one who is away which lack a list that there must
+// be, nil or empty.
+func withListsDropped(yield func(what string, m impl.Smithy) bool) {
+	if !yield("nothing at all", impl.Smithy{}) || !yield("nothing at all but empty lists", impl.Smithy{Hall: impl.Hall{Rooms: []impl.Room{}}, Guilds: []impl.Guild{}, Smiths: []impl.Smith{}, Desks: []impl.Desk{}, Paces: []int64{}}) {
+		return
+	}
+	for _, text := range []string{"1 1:1", benchHall, eightHall} {
+		for i, drop := range []func(m *impl.Smithy){
+			func(m *impl.Smithy) { m.Hall.Rooms = nil }, func(m *impl.Smithy) { m.Hall.Rooms = m.Hall.Rooms[:0] },
+			func(m *impl.Smithy) { m.Hall.Rooms[0].Paces = nil }, func(m *impl.Smithy) { m.Hall.Rooms[0].Paces = []impl.Pace{} },
+			func(m *impl.Smithy) { m.Desks = nil }, func(m *impl.Smithy) { m.Desks = m.Desks[:0] },
+			func(m *impl.Smithy) { m.Paces = nil }, func(m *impl.Smithy) { m.Paces = m.Paces[:0] },
+		} {
+			m := lendSmithy(smithyWith(text, nil, smith(impl.SmAway, 0, 0, 0)))
+			drop(&m)
+			if !yield(fmt.Sprint("list ", i, " dropped"), m) {
+				return
+			}
+		}
+	}
+}
+
+// wrongSmithies goes through each part that chapter 11 names, wrong one at a time, and all that may be wrong in whose
+// turn it is.
+func wrongSmithies(yield func(what string, m impl.Smithy) bool) {
+	list := slices.Concat(spoiledParts(), spoiledSmiths(), spoiledPlaces(), spoiledTurns())
+	for _, r := range wrongRooms() {
+		for room := range 2 {
+			list = append(list, spoiled{"a wrong room", func(m *impl.Smithy) { m.Hall.Rooms[room] = r }})
+		}
+	}
+	for bench, d := range middleSmithy().Desks {
+		for _, who := range manyWhos {
+			if who != d.Who {
+				list = append(list, spoiled{fmt.Sprint(who, " as Who of ", bench), func(m *impl.Smithy) { m.Desks[bench].Who = who }})
+			}
+		}
+	}
+	for _, k := range list {
+		m := lendSmithy(middleSmithy())
+		k.change(&m)
+		if !yield(k.what, m) {
+			return
+		}
+	}
+}
+
 // Each part that chapter 11 names, wrong one at a time, where turns are right and where they are not.
 func TestWhatIsWrongElsewhereIsNotTurned(t *testing.T) {
 	nobodyCalled := lendSmithy(middleSmithy())

@@ -234,15 +234,6 @@ func checkNoCoal(t *testing.T, what string, m impl.Smithy) {
 	}
 }
 
-func checkCoalOfEither(t *testing.T, right bool, what string, m impl.Smithy) {
-	t.Helper()
-	if right {
-		checkCoalOfRight(t, what, m)
-	} else {
-		checkNoCoal(t, what, m)
-	}
-}
-
 func TestCoalCases(t *testing.T) {
 	cases := []struct {
 		m           impl.Smithy
@@ -642,49 +633,18 @@ func TestRoomsWhosAndBenchesOutOfRange(t *testing.T) {
 
 // Each part that chapter 11 names, wrong one at a time, and all that may be wrong in whose turn it is.
 func TestWhatIsWrongHasNoCoal(t *testing.T) {
-	for _, k := range slices.Concat(spoiledParts(), spoiledSmiths(), spoiledPlaces(), spoiledTurns()) {
-		m := lendSmithy(middleSmithy())
-		k.change(&m)
-		checkNoCoal(t, k.what, m)
-	}
-	for _, r := range wrongRooms() {
-		for room := range 2 {
-			m := lendSmithy(middleSmithy())
-			m.Hall.Rooms[room] = r
-			checkNoCoal(t, "a wrong room", m)
-		}
-	}
-	for bench := range middleSmithy().Desks {
-		for _, who := range manyWhos {
-			m := lendSmithy(middleSmithy())
-			right := m.Desks[bench].Who == who
-			m.Desks[bench].Who = who
-			checkCoalOfEither(t, right, fmt.Sprint(who, " as Who of ", bench), m)
-		}
+	for what, m := range wrongSmithies {
+		checkNoCoal(t, what, m)
 	}
 }
 
 // The least and the greatest int64, and others that are right nowhere, in each number of each part and in all of them.
 func TestCoalOfWrongNumbersInEveryPart(t *testing.T) {
-	for _, right := range []impl.Smithy{middleSmithy(), fullSmithy()} {
-		for i := range numbersOf(&right) {
-			for _, n := range wrongInAnyField {
-				m := lendSmithy(right)
-				number := numbersOf(&m)[i]
-				*number.at = n
-				checkNoCoal(t, fmt.Sprint(n, " as ", number.name), m)
-			}
-		}
-		for _, n := range wrongInAnyField {
-			m := lendSmithy(right)
-			for _, number := range numbersOf(&m) {
-				*number.at = n
-			}
-			checkNoCoal(t, fmt.Sprint(n, " everywhere"), m)
-			for _, x := range []int64{math.MinInt64, n, math.MaxInt64} {
-				if impl.NeedIn(m, x) != -1 || impl.CoalIn(m, x) != -1 || impl.CoalWith(m, x, x) != -1 || impl.CoalWith(m, x, 0) != -1 || impl.CoalWith(m, 0, x) != -1 {
-					t.Fatalf("of %d with %d everywhere there is coal", x, n)
-				}
+	for what, m := range wrongNumbersInEveryPart {
+		checkNoCoal(t, what, m)
+		for _, x := range []int64{math.MinInt64, math.MaxInt64} {
+			if impl.NeedIn(m, x) != -1 || impl.CoalIn(m, x) != -1 || impl.CoalWith(m, x, x) != -1 || impl.CoalWith(m, x, 0) != -1 || impl.CoalWith(m, 0, x) != -1 {
+				t.Fatalf("of %d with %s there is coal", x, what)
 			}
 		}
 	}
@@ -736,8 +696,9 @@ func TestCoalOfWhatMeetsItsLimits(t *testing.T) {
 }
 
 func TestCoalOfEmptyAndNilLists(t *testing.T) {
-	checkNoCoal(t, "nothing at all", impl.Smithy{})
-	checkNoCoal(t, "nothing at all but empty lists", impl.Smithy{Hall: impl.Hall{Rooms: []impl.Room{}}, Guilds: []impl.Guild{}, Smiths: []impl.Smith{}, Desks: []impl.Desk{}, Paces: []int64{}})
+	for what, m := range withListsDropped {
+		checkNoCoal(t, what, m)
+	}
 	for _, text := range []string{"1 1:1", benchHall, eightHall} {
 		m := emptySmithy(text)
 		checkCoalOfRight(t, "empty guilds and smiths", m)
@@ -745,16 +706,6 @@ func TestCoalOfEmptyAndNilLists(t *testing.T) {
 		checkCoalOfRight(t, "no guilds and no smiths", m)
 		if impl.CoalOf(m) != 0 || impl.CoalWith(m, 0, 0) != -1 {
 			t.Fatalf("%s costs %d, and %d with one there is not", text, impl.CoalOf(m), impl.CoalWith(m, 0, 0))
-		}
-		for i, drop := range []func(m *impl.Smithy){
-			func(m *impl.Smithy) { m.Hall.Rooms = nil }, func(m *impl.Smithy) { m.Hall.Rooms = m.Hall.Rooms[:0] },
-			func(m *impl.Smithy) { m.Hall.Rooms[0].Paces = nil }, func(m *impl.Smithy) { m.Hall.Rooms[0].Paces = []impl.Pace{} },
-			func(m *impl.Smithy) { m.Desks = nil }, func(m *impl.Smithy) { m.Desks = m.Desks[:0] },
-			func(m *impl.Smithy) { m.Paces = nil }, func(m *impl.Smithy) { m.Paces = m.Paces[:0] },
-		} {
-			x := lendSmithy(m)
-			drop(&x)
-			checkNoCoal(t, fmt.Sprint("list ", i, " dropped"), x)
 		}
 	}
 }

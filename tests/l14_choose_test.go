@@ -249,15 +249,6 @@ func checkNoChoice(t *testing.T, what string, m impl.Smithy) {
 	}
 }
 
-func checkChoiceOfEither(t *testing.T, right bool, what string, m impl.Smithy) {
-	t.Helper()
-	if right {
-		checkChoiceOfRight(t, what, m)
-	} else {
-		checkNoChoice(t, what, m)
-	}
-}
-
 // checkChosen asks for all that the chapter answers of one, written out.
 func checkChosen(t *testing.T, what string, m impl.Smithy, who int64, crowded bool, chosen int64, fitting ...int64) {
 	t.Helper()
@@ -806,48 +797,17 @@ func TestWhatIsWrongChoosesNothing(t *testing.T) {
 	if !impl.Crowded(middleSmithy()) {
 		t.Fatal("what is spoiled was not Crowded ahead of it")
 	}
-	for _, k := range slices.Concat(spoiledParts(), spoiledSmiths(), spoiledPlaces(), spoiledTurns()) {
-		m := lendSmithy(middleSmithy())
-		k.change(&m)
-		checkNoChoice(t, k.what, m)
-	}
-	for _, r := range wrongRooms() {
-		for room := range 2 {
-			m := lendSmithy(middleSmithy())
-			m.Hall.Rooms[room] = r
-			checkNoChoice(t, "a wrong room", m)
-		}
-	}
-	for bench := range middleSmithy().Desks {
-		for _, who := range manyWhos {
-			m := lendSmithy(middleSmithy())
-			right := m.Desks[bench].Who == who
-			m.Desks[bench].Who = who
-			checkChoiceOfEither(t, right, fmt.Sprint(who, " as Who of ", bench), m)
-		}
+	for what, m := range wrongSmithies {
+		checkNoChoice(t, what, m)
 	}
 }
 
 // The least and the greatest int64, and others that are right nowhere, in each number of each part and in all of them.
 func TestChoiceOfWrongNumbersInEveryPart(t *testing.T) {
-	for _, right := range []impl.Smithy{middleSmithy(), fullSmithy()} {
-		for i := range numbersOf(&right) {
-			for _, n := range wrongInAnyField {
-				m := lendSmithy(right)
-				number := numbersOf(&m)[i]
-				*number.at = n
-				checkNoChoice(t, fmt.Sprint(n, " as ", number.name), m)
-			}
-		}
-		for _, n := range wrongInAnyField {
-			m := lendSmithy(right)
-			for _, number := range numbersOf(&m) {
-				*number.at = n
-			}
-			checkNoChoice(t, fmt.Sprint(n, " everywhere"), m)
-			for _, who := range []int64{math.MinInt64, n, math.MaxInt64} {
-				checkNoneFor(t, fmt.Sprint(n, " everywhere"), m, who)
-			}
+	for what, m := range wrongNumbersInEveryPart {
+		checkNoChoice(t, what, m)
+		for _, who := range []int64{math.MinInt64, math.MaxInt64} {
+			checkNoneFor(t, what, m, who)
 		}
 	}
 }
@@ -916,25 +876,15 @@ func TestChoiceWhereTheMostIsUsed(t *testing.T) {
 }
 
 func TestChoiceOfEmptyAndNilLists(t *testing.T) {
-	checkNoChoice(t, "nothing at all", impl.Smithy{})
-	checkNoChoice(t, "nothing at all but empty lists", impl.Smithy{Hall: impl.Hall{Rooms: []impl.Room{}}, Guilds: []impl.Guild{}, Smiths: []impl.Smith{}, Desks: []impl.Desk{}, Paces: []int64{}})
+	for what, m := range withListsDropped {
+		checkNoChoice(t, what, m)
+	}
 	for _, text := range []string{"1 1:1", benchHall, eightHall} {
 		m := emptySmithy(text)
 		checkChoiceOfRight(t, "empty guilds and smiths", m)
 		m.Guilds, m.Smiths = nil, nil
 		checkChoiceOfRight(t, "no guilds and no smiths", m)
 		checkNoneFor(t, "no smiths", m, 0)
-		m.Smiths = []impl.Smith{smith(impl.SmAway, 0, 0, 0)}
-		for i, drop := range []func(m *impl.Smithy){
-			func(m *impl.Smithy) { m.Hall.Rooms = nil }, func(m *impl.Smithy) { m.Hall.Rooms = m.Hall.Rooms[:0] },
-			func(m *impl.Smithy) { m.Hall.Rooms[0].Paces = nil }, func(m *impl.Smithy) { m.Hall.Rooms[0].Paces = []impl.Pace{} },
-			func(m *impl.Smithy) { m.Desks = nil }, func(m *impl.Smithy) { m.Desks = m.Desks[:0] },
-			func(m *impl.Smithy) { m.Paces = nil }, func(m *impl.Smithy) { m.Paces = m.Paces[:0] },
-		} {
-			x := lendSmithy(m)
-			drop(&x)
-			checkNoChoice(t, fmt.Sprint("list ", i, " dropped"), x)
-		}
 	}
 }
 

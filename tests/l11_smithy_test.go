@@ -291,7 +291,11 @@ func wantWantOf(m impl.Smithy, who int64) int64 {
 	if !wantSmithyOk(m) || !isFrom(who, 0, int64(len(m.Smiths))-1) || m.Smiths[who].State == 0 {
 		return -1
 	}
-	s := m.Smiths[who]
+	return wantWant(m, m.Smiths[who])
+}
+
+// wantWant is what one wants wherever it is, be the smithy right or on the way to that.
+func wantWant(m impl.Smithy, s impl.Smith) int64 {
 	low, high := wantWithin(m.Guilds, s.Guild, s.Low, s.High)
 	between := []int64{low, s.Util, high}
 	slices.Sort(between)

@@ -26,10 +26,15 @@ func wantUsed(m impl.Smithy) []int64 {
 	if !wantSmithyOk(m) {
 		return nil
 	}
+	return wantUsedNow(m)
+}
+
+// wantUsedNow is asked of what is right, and of what is on the way to that.
+func wantUsedNow(m impl.Smithy) []int64 {
 	used := make([]int64, len(m.Desks))
-	for who, s := range m.Smiths {
+	for _, s := range m.Smiths {
 		if s.State >= 2 {
-			used[s.Bench] += wantWantOf(m, int64(who))
+			used[s.Bench] += wantWant(m, s)
 		}
 	}
 	return used
@@ -66,15 +71,12 @@ func wantCosts(m impl.Smithy, used []int64) int64 {
 
 // wantCoalWith takes what who wants from one bench and lays it down at the other one, where the program moves who.
 func wantCoalWith(m impl.Smithy, used []int64, who, bench int64) int64 {
-	want := int64(-1)
-	if len(used) > 0 {
-		want = wantWantOf(m, who)
-	}
-	if want < 0 || !isFrom(bench, 0, int64(len(used))-1) || !m.Desks[bench].Open {
+	if stateOf(m, who) == 0 || !isFrom(bench, 0, int64(len(used))-1) || !m.Desks[bench].Open {
 		return -1
 	}
-	then := slices.Clone(used)
-	if s := m.Smiths[who]; s.State >= 2 {
+	s, then := m.Smiths[who], slices.Clone(used)
+	want := wantWant(m, s)
+	if s.State >= 2 {
 		then[s.Bench] -= want
 	}
 	then[bench] += want

@@ -22,7 +22,7 @@ func wantForce(m impl.Smithy, bench int64) int64 {
 // wantButBy is what is used at a bench but by who.
 func wantButBy(m impl.Smithy, used []int64, who, bench int64) int64 {
 	if s := m.Smiths[who]; s.State >= 2 && s.Bench == bench {
-		return used[bench] - wantWantOf(m, who)
+		return used[bench] - wantWant(m, s)
 	}
 	return used[bench]
 }
@@ -38,7 +38,7 @@ func wantMayWork(m impl.Smithy, used []int64, who, bench int64) bool {
 func wantFitting(m impl.Smithy, used []int64, who int64) []int64 {
 	list := []int64{}
 	for bench := range int64(len(used)) {
-		if wantMayWork(m, used, who, bench) && wantFitsIn(wantWantOf(m, who), wantButBy(m, used, who, bench), wantForce(m, bench)) {
+		if wantMayWork(m, used, who, bench) && wantFitsIn(wantWant(m, m.Smiths[who]), wantButBy(m, used, who, bench), wantForce(m, bench)) {
 			list = append(list, bench)
 		}
 	}

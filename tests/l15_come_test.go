@@ -151,6 +151,17 @@ func checkAsked(t *testing.T, m impl.Smithy, list ...asked) {
 	}
 }
 
+// checkAnswers holds what is answered against the reckoning, and nothing else.
+func checkAnswers(t *testing.T, m impl.Smithy, list ...asked) {
+	t.Helper()
+	for _, a := range list {
+		want, code := a.want(m)
+		if x, k := a.got(m); k != code || !sameSmithy(x, want) {
+			t.Fatalf("%s of %+v = %+v, %d, not %+v, %d", a.name, m, x, k, want, code)
+		}
+	}
+}
+
 // checkCode asks for one code, written out, and that all is as it was where that is a refusal.
 func checkCode(t *testing.T, what string, m impl.Smithy, a asked, code int64) impl.Smithy {
 	t.Helper()
@@ -165,22 +176,24 @@ func checkCode(t *testing.T, what string, m impl.Smithy, a asked, code int64) im
 // checkNothingChanged is the first half of the promise, of a smithy that is right.
 func checkNothingChanged(t *testing.T, m, x impl.Smithy, code int64) {
 	t.Helper()
-	if !isFrom(code, impl.OpNone, impl.OpFull) || !sameSmithy(x, m) {
+	if !isFrom(code, impl.OpNone, impl.OpLast) || !sameSmithy(x, m) {
 		t.Fatalf("refused by %d, and %+v became %+v", code, m, x)
 	}
 }
 
-// checkOthersStay asks that x is right and Turned, and that but for who, and for whose turn it is, all is as it was in m.
-func checkOthersStay(t *testing.T, m, x impl.Smithy, who int) {
+// checkOthersStay asks that x is right and Turned, and that but for those, and for whose turn it is, all is as it was in m.
+func checkOthersStay(t *testing.T, m, x impl.Smithy, whos ...int) {
 	t.Helper()
 	if !impl.SmithyOk(x) || !sameSmithy(impl.Turned(x), x) {
 		t.Fatalf("not SmithyOk or not Turned: %+v became %+v", m, x)
 	}
 	was := lendSmithy(m)
-	if who == len(was.Smiths) {
-		was.Smiths = append(was.Smiths, impl.Smith{})
+	for _, who := range whos {
+		if who == len(was.Smiths) {
+			was.Smiths = append(was.Smiths, impl.Smith{})
+		}
+		was.Smiths[who] = x.Smiths[who]
 	}
-	was.Smiths[who] = x.Smiths[who]
 	checkOnlyTurnsChange(t, was, x)
 	for bench, d := range m.Desks {
 		checkFirstWorks(t, x, int64(bench), d.Mark)
@@ -317,14 +330,14 @@ func checkToAndFro(t *testing.T, m impl.Smithy, comers ...impl.Smith) {
 }
 
 // checkNothingDone asks for what is answered of a smithy that is not right, whatever is asked of it.
-func checkNothingDone(t *testing.T, what string, m impl.Smithy, more ...asked) {
+func checkNothingDone(t *testing.T, what string, m impl.Smithy, list ...asked) {
 	t.Helper()
 	lent := lendSmithy(m)
 	before := toTheBrim(lent)
 	if impl.SmithyOk(lent) {
 		t.Fatalf("SmithyOk with %s: %+v", what, m)
 	}
-	for _, a := range slices.Concat(allAsked(mostSmiths, fewComers()...), more) {
+	for _, a := range list {
 		if x, code := a.got(lent); code != impl.OpRange || !sameSmithy(x, impl.Smithy{}) {
 			t.Fatalf("%s with %s = %+v, %d: %+v", a.name, what, x, code, m)
 		}
@@ -645,7 +658,7 @@ func TestSeveralCodesAtOnce(t *testing.T) {
 	checkCode(t, "gone, and so neither waits nor works", m, resting(2), impl.OpNone)
 	checkCode(t, "nobody", m, waking(3), impl.OpNone)
 	m.Now = -1
-	checkNothingDone(t, "a Now below 0, and all else that may be refused", m)
+	checkNothingDone(t, "a Now below 0, and all else that may be refused", m, allAsked(3, fewComers()...)...)
 }
 
 // Who rests keeps all that it had, wherever it stands in its queue.
@@ -905,27 +918,26 @@ func stepped(t *testing.T, l *lots, counted codes, m impl.Smithy) impl.Smithy {
 // Each part that chapter 11 names, wrong one at a time, and all that may be wrong in whose turn it is.
 func TestOfWhatIsWrongNothingIsDone(t *testing.T) {
 	for what, m := range wrongSmithies {
-		checkNothingDone(t, what, m)
+		checkNothingDone(t, what, m, allAsked(mostSmiths, fewComers()...)...)
 	}
 }
 
 // The least and the greatest int64, and others that are right nowhere, in each number of each part and in all of them.
 func TestToAndFroOfWrongNumbersInEveryPart(t *testing.T) {
-	more := []asked{}
+	list := allAsked(mostSmiths, fewComers()...)
 	for _, n := range []int64{math.MinInt64, math.MaxInt64} {
-		more = append(more, coming(n, n, n), coming(n, 255, -1), coming(0, n, -1), coming(0, 255, n), resting(n), waking(n), leaving(n))
+		list = append(list, coming(n, n, n), coming(n, 255, -1), coming(0, n, -1), coming(0, 255, n), resting(n), waking(n), leaving(n))
 	}
 	for what, m := range wrongNumbersInEveryPart {
-		checkNothingDone(t, what, m, more...)
+		checkNothingDone(t, what, m, list...)
 	}
 }
 
-// Each number of a right smithy a little off, and at many others that may be right or wrong there, held against a
-// reckoning.
-func TestToAndFroOfEveryNumberALittleOff(t *testing.T) {
+// aLittleOff goes through a right smithy with each of its numbers a little off, and with many others that may be right
+// or wrong there.
+func aLittleOff(right impl.Smithy) func(yield func(m impl.Smithy) bool) {
 	others := []int64{-mostMark - 1, -mostMark, -credit, -1, 0, 1, 2, 4, 7, 255, 256, 1024, 1025, lead, mostNow + 1, mostMark, mostMark + 1}
-	for _, right := range []impl.Smithy{middleSmithy(), dearSmithy()} {
-		list := allAsked(len(right.Smiths), comer(0, 255, -1), comer(-1, 6, 0), comer(1, 2, -1))
+	return func(yield func(m impl.Smithy) bool) {
 		for i, number := range numbersOf(&right) {
 			tries := slices.Clone(others)
 			for off := int64(-2); off <= 2; off++ {
@@ -934,19 +946,25 @@ func TestToAndFroOfEveryNumberALittleOff(t *testing.T) {
 			for _, n := range tries {
 				m := lendSmithy(right)
 				*numbersOf(&m)[i].at = n
-				for _, a := range list {
-					want, code := a.want(m)
-					if x, k := a.got(m); k != code || !sameSmithy(x, want) {
-						t.Fatalf("%s of %+v = %+v, %d, not %+v, %d", a.name, m, x, k, want, code)
-					}
+				if !yield(m) {
+					return
 				}
 			}
 		}
 	}
 }
 
-// Limits that are met exactly are accepted.
-func TestToAndFroOfWhatMeetsItsLimits(t *testing.T) {
+func TestToAndFroOfEveryNumberALittleOff(t *testing.T) {
+	for _, right := range []impl.Smithy{middleSmithy(), dearSmithy()} {
+		list := allAsked(len(right.Smiths), comer(0, 255, -1), comer(-1, 6, 0), comer(1, 2, -1))
+		for m := range aLittleOff(right) {
+			checkAnswers(t, m, list...)
+		}
+	}
+}
+
+// whatMeetsItsLimits goes through the middle smithy with limits that are met exactly.
+func whatMeetsItsLimits(yield func(i int, m impl.Smithy) bool) {
 	for i, change := range []func(m *impl.Smithy){
 		func(m *impl.Smithy) { m.Now = 0 },
 		func(m *impl.Smithy) { m.Now = mostNow },
@@ -971,6 +989,14 @@ func TestToAndFroOfWhatMeetsItsLimits(t *testing.T) {
 	} {
 		m := lendSmithy(middleSmithy())
 		change(&m)
+		if !yield(i, m) {
+			return
+		}
+	}
+}
+
+func TestToAndFroOfWhatMeetsItsLimits(t *testing.T) {
+	for i, m := range whatMeetsItsLimits {
 		checkToAndFro(t, m, fewComers()...)
 		if _, code := impl.Rest(m, 0); code != impl.OpDone {
 			t.Errorf("limit %d: Rest is refused by %d", i, code)
@@ -980,7 +1006,7 @@ func TestToAndFroOfWhatMeetsItsLimits(t *testing.T) {
 
 func TestToAndFroOfEmptyAndNilLists(t *testing.T) {
 	for what, m := range withListsDropped {
-		checkNothingDone(t, what, m)
+		checkNothingDone(t, what, m, allAsked(mostSmiths, fewComers()...)...)
 	}
 	for _, text := range []string{"1 1:1", benchHall, eightHall} {
 		m := emptySmithy(text)
@@ -997,52 +1023,65 @@ func TestToAndFroOfEmptyAndNilLists(t *testing.T) {
 	}
 }
 
-// What is written to one answer, in all of its lists, is seen in no other one and in no argument; of refusals, too.
-func TestToAndFroIsNewMemory(t *testing.T) {
-	for _, m := range append(rightSmithies(), dearSmithy()) {
-		for _, a := range allAsked(len(m.Smiths), fewComers()...) {
-			lent := lendSmithy(m)
-			before := toTheBrim(lent)
-			want, code := a.want(m)
-			x, _ := a.got(lent)
-			other, k := a.got(lent)
-			checkNoneShared(t, lent, x, other)
-			for _, n := range numbersOf(&x) {
-				*n.at = -77
-			}
-			for bench := range x.Desks {
-				x.Desks[bench].Open = !x.Desks[bench].Open
-			}
-			if !reflect.DeepEqual(toTheBrim(lent), before) || k != code || !sameSmithy(other, want) {
-				t.Fatalf("what was written to %s of %+v is seen elsewhere", a.name, m)
-			}
-			for _, n := range numbersOf(&lent) {
-				*n.at = -78
-			}
-			if !sameSmithy(other, want) {
-				t.Fatalf("what was written to %+v is seen in %s", m, a.name)
-			}
+// checkWrittenNowhereElse asks that what is written to one answer, in all of its lists, is seen in no other one and in no
+// argument, and the other way about; of refusals, too.
+func checkWrittenNowhereElse(t *testing.T, m impl.Smithy, list ...asked) {
+	t.Helper()
+	for _, a := range list {
+		lent := lendSmithy(m)
+		before := toTheBrim(lent)
+		want, code := a.want(m)
+		x, _ := a.got(lent)
+		other, k := a.got(lent)
+		checkNoneShared(t, lent, x, other)
+		for _, n := range numbersOf(&x) {
+			*n.at = -77
+		}
+		for bench := range x.Desks {
+			x.Desks[bench].Open = !x.Desks[bench].Open
+		}
+		if !reflect.DeepEqual(toTheBrim(lent), before) || k != code || !sameSmithy(other, want) {
+			t.Fatalf("what was written to %s of %+v is seen elsewhere", a.name, m)
+		}
+		for _, n := range numbersOf(&lent) {
+			*n.at = -78
+		}
+		if !sameSmithy(other, want) {
+			t.Fatalf("what was written to %+v is seen in %s", m, a.name)
 		}
 	}
 }
 
-// Rooms that have one list of Paces between them have one each in what is answered.
-func TestToAndFroSharesNoPaces(t *testing.T) {
+func TestToAndFroIsNewMemory(t *testing.T) {
+	for _, m := range append(rightSmithies(), dearSmithy()) {
+		checkWrittenNowhereElse(t, m, allAsked(len(m.Smiths), fewComers()...)...)
+	}
+}
+
+// withPacesShared has rooms that have one list of Paces between them.
+func withPacesShared() impl.Smithy {
 	m := smithyWith("1 1:1 2:2/2 1:1 2:2/1 1:1 2:2", nil, smith(impl.SmAway, 0, 0, 1), smith(impl.SmWorks, 1, 0, 1))
 	for i := range m.Hall.Rooms {
 		m.Hall.Rooms[i].Paces = m.Hall.Rooms[0].Paces
 	}
-	for _, a := range allAsked(2, fewComers()...) {
-		x, code := a.got(m)
+	return m
+}
+
+// checkPacesApart asks that rooms have a list each in what is answered, whatever they have in what is given.
+func checkPacesApart(t *testing.T, list ...asked) {
+	t.Helper()
+	m := withPacesShared()
+	checkAnswers(t, m, list...)
+	for _, a := range list {
+		x, _ := a.got(m)
 		checkNoneShared(t, x)
-		if want, k := a.want(m); k != code || !sameSmithy(x, want) {
-			t.Fatalf("%s of %+v = %+v, %d", a.name, m, x, code)
-		}
 	}
 }
 
-// Every smithy of two benches and of two smiths in all states, held against a reckoning.
-func TestToAndFroOfSmallSmithies(t *testing.T) {
+func TestToAndFroSharesNoPaces(t *testing.T) { checkPacesApart(t, allAsked(2, fewComers()...)...) }
+
+// smallSmithies goes through all smithies of two benches and of two smiths in all states, right and wrong.
+func smallSmithies(yield func(m impl.Smithy) bool) {
 	kinds := []impl.Smith{gone()}
 	for state := int64(impl.SmAway); state <= impl.SmWorks; state++ {
 		for bench := range int64(2) {
@@ -1055,8 +1094,6 @@ func TestToAndFroOfSmallSmithies(t *testing.T) {
 			}
 		}
 	}
-	list := allAsked(2, comer(0, 1, -1), comer(0, 3, -1))
-	right, wrong := 0, 0
 	m := emptySmithy("1 50:30 60:70/1 50:20 100:80")
 	m.Smiths = make([]impl.Smith, 2)
 	for _, m.Smiths[0] = range kinds {
@@ -1068,21 +1105,24 @@ func TestToAndFroOfSmallSmithies(t *testing.T) {
 						m.Desks[s.Bench].Who = int64(who)
 					}
 				}
-				if !wantSmithyOk(m) {
-					wrong++
-				} else {
-					right++
-				}
-				for _, a := range list {
-					want, code := a.want(m)
-					if x, k := a.got(m); k != code || !sameSmithy(x, want) {
-						t.Fatalf("%s of %+v = %+v, %d, not %+v, %d", a.name, m, x, k, want, code)
-					}
+				if !yield(m) {
+					return
 				}
 			}
 		}
 	}
-	if right < 2000 || wrong < 2000 {
-		t.Fatalf("%d of them are right, and %d wrong", right, wrong)
+}
+
+func TestToAndFroOfSmallSmithies(t *testing.T) {
+	list := allAsked(2, comer(0, 1, -1), comer(0, 3, -1))
+	right, all := 0, 0
+	for m := range smallSmithies {
+		if all++; wantSmithyOk(m) {
+			right++
+		}
+		checkAnswers(t, m, list...)
+	}
+	if right < 2000 || all-right < 2000 {
+		t.Fatalf("%d of them are right, and %d wrong", right, all-right)
 	}
 }
